@@ -3,7 +3,7 @@
 import unittest
 
 from helper import (
-    ask, begin, drain, given, labels, last, let_go, line, packet, queues, router_with, state, take, taken_back, waiting,
+    begin, drain, given, labels, last, let_go, line, packet, queues, router_with, state, take, taken_back, waiting,
     way,
 )
 
@@ -154,7 +154,7 @@ class TakenBack(unittest.TestCase):
     def test_one_frame_more_waits_each_time(self):
         self.assertEqual(waiting(UP + [take(0, given(1, 20))] + [take(0, taken_back(1, 20))] * 3, 0), 3)
 
-    def test_the_label_is_given_on_that_line_behind_what_waits(self):
+    def test_the_answer_waits_behind_what_was_said_before(self):
         router = router_with(up=[0])
         router.lr_way(1, 8)
         router.lr_take(0, taken_back(1, 20))
