@@ -7,6 +7,10 @@ BEGIN = 0
 WAY = 1
 LINE = 2
 TAKE = 3
+ENTER = 4
+NEXT = 5
+GONE = 6
+LOOK = 7
 
 
 class UnknownCall(ValueError):
@@ -31,6 +35,30 @@ def ask_take(router, reader):
     return [router.lr_take(p, frame)]
 
 
+def ask_enter(router, reader):
+    f = reader.read_number()
+    payload = reader.read_row()
+    return [router.lr_enter(f, payload)]
+
+
+def ask_next(router, reader):
+    p = reader.read_number()
+    most = reader.read_number()
+    return router.lr_next(p, most)
+
+
+def ask_gone(router, reader):
+    most = reader.read_number()
+    return router.lr_gone(most)
+
+
+def ask_look(router, reader):
+    what = reader.read_number()
+    f = reader.read_number()
+    p = reader.read_number()
+    return [router.lr_look(what, f, p)]
+
+
 def answer_one(router, reader):
     call = reader.read_number()
     if call == BEGIN:
@@ -41,6 +69,14 @@ def answer_one(router, reader):
         return ask_line(router, reader)
     if call == TAKE:
         return ask_take(router, reader)
+    if call == ENTER:
+        return ask_enter(router, reader)
+    if call == NEXT:
+        return ask_next(router, reader)
+    if call == GONE:
+        return ask_gone(router, reader)
+    if call == LOOK:
+        return ask_look(router, reader)
     raise UnknownCall(f"no call has the number {call}")
 
 

@@ -4,12 +4,21 @@ from bylabels.frames import GIVEN, LET_GO, PACKET_HEAD, TAKEN_BACK
 from bylabels.frames import is_message, is_packet, message_frame, message_label, packet_frame, packet_label
 from bylabels.labels import LabelBook
 from bylabels.lines import Line
-from bylabels.sizes import ENDS, HERE, LINES, LONGEST_FRAME, MOST_LEAVING, NO_WAY
+from bylabels.sizes import ENDS, HERE, LINES, LONGEST_FRAME, LONGEST_PAYLOAD
+from bylabels.sizes import GREATEST_MOST, MOST_LEAVING, NO_WAY, STEPS_AT_FIRST
 
 DONE = 0
 NOT_NOW = -1
 OUT_OF_RANGE = -2
 NO_SUCH_FRAME = -3
+TOO_LONG = -5
+
+ACTIVE_LABEL = 0
+HEARD_LABEL = 1
+FRAMES_WAITING = 2
+LABELS_GIVEN = 3
+
+NO_LABEL = -1
 
 
 def is_line(p):
@@ -18,6 +27,20 @@ def is_line(p):
 
 def is_end(f):
     return 0 <= f < ENDS
+
+
+def is_look(what):
+    return ACTIVE_LABEL <= what <= LABELS_GIVEN
+
+
+# The answer is a list, as only here more than one number is answered.
+def take_first(waiting, most):
+    if len(waiting) == 0:
+        return [NOT_NOW]
+    if len(waiting[0]) > most:
+        return [TOO_LONG]
+    first = waiting.pop(0)
+    return [len(first)] + first
 
 
 class Router:
@@ -67,6 +90,38 @@ class Router:
         else:
             return NO_SUCH_FRAME
         return DONE
+
+    def lr_enter(self, f, payload):
+        if not is_end(f) or not 1 <= len(payload) <= LONGEST_PAYLOAD:
+            return OUT_OF_RANGE
+        self.go_on(f, STEPS_AT_FIRST, payload)
+        return DONE
+
+    def lr_next(self, p, most):
+        if not is_line(p) or most > GREATEST_MOST:
+            return [OUT_OF_RANGE]
+        return take_first(self.lines[p].waiting, most)
+
+    def lr_gone(self, most):
+        if most > GREATEST_MOST:
+            return [OUT_OF_RANGE]
+        return take_first(self.leaving, most)
+
+    # Each number is asked for its range, also where that look has no use for it.
+    def lr_look(self, what, f, p):
+        if not is_look(what) or not is_end(f) or not is_line(p):
+            return OUT_OF_RANGE
+        if what == ACTIVE_LABEL:
+            return self.active_number(f)
+        if what == HEARD_LABEL:
+            return self.lines[p].heard.get(f, NO_LABEL)
+        if what == FRAMES_WAITING:
+            return len(self.lines[p].waiting)
+        return len(self.book.given)
+
+    def active_number(self, f):
+        label = self.book.active_for(f)
+        return NO_LABEL if label is None else label.number
 
     def take_message(self, p, what, end, number):
         if what == GIVEN:

@@ -3,7 +3,7 @@
 import unittest
 
 from bylabels.desk import UnknownCall, answers
-from helper import begin, flat, given, line, packet, take, taken_back, way
+from helper import begin, flat, given, line, packet, same, take, taken_back, way
 
 
 class Desk(unittest.TestCase):
@@ -14,6 +14,20 @@ class Desk(unittest.TestCase):
         self.assertEqual(answers([0, 2, 3, 1, 2, 8, 1]), [1, 0, 1, 0, 1, -2])
         self.assertEqual(answers([0, 3, 3, 5, 0, 1, 0, 0, 16]), [1, 0, 1, -1])
         self.assertEqual(answers([0, 2, 3, 1, 3, 3, 1, 9]), [1, 0, 1, 0, 1, -3])
+
+    def test_an_answer_of_several_numbers_is_its_size_and_these(self):
+        self.assertEqual(answers([0, 1, 3, 8, 4, 3, 2, 9, 8, 6, 3]), [1, 0, 1, 0, 1, 0, 4, 3, 3, 9, 8])
+        self.assertEqual(answers([0, 2, 5, 1, 1, 3, 8, 5, 5, 5]), [1, 0, 1, 0, 1, 0, 6, 5, 0, 1, 3, 0, 16])
+
+    def test_a_refusal_is_its_number_alone(self):
+        self.assertEqual(answers([0, 5, 0, 9, 5, 8, 9, 6, 9, 6, 65537]), [1, 0, 1, -1, 1, -2, 1, -1, 1, -2])
+        self.assertEqual(answers([0, 1, 3, 8, 4, 3, 1, 9, 6, 1]), [1, 0, 1, 0, 1, 0, 1, -5])
+        self.assertEqual(answers([0, 2, 5, 1, 1, 3, 8, 5, 5, 4]), [1, 0, 1, 0, 1, 0, 1, -5])
+
+    def test_enter_and_look_answer_one_number(self):
+        self.assertEqual(answers([0, 4, 0, 1, 7, 4, 32, 1, 7, 4, 0, 0]), [1, 0, 1, 0, 1, -2, 1, -2])
+        self.assertEqual(answers([0, 1, 3, 8, 7, 0, 3, 0, 7, 1, 3, 0, 7, 2, 3, 0, 7, 3, 3, 0, 7, 4, 3, 0]),
+                         [1, 0, 1, 0, 1, 16, 1, -1, 1, 0, 1, 1, 1, -2])
 
     def test_calls_are_read_one_behind_another(self):
         told = answers([0, 2, 3, 1, 3, 3, 0, 1, 5, -1, 3, 3, 6, 1, 9, 0, 16, 1, 2, 3, 3, 2, 1, 0, 0, 1, 32, 0])
@@ -39,13 +53,13 @@ class Desk(unittest.TestCase):
         self.assertEqual(answers(up), [1, 0] * 3)
         self.assertEqual(answers(flat([begin(), take(0, given(3, 16))])), [1, 0, 1, -1])
         full = flat([begin(), line(0, 1)] + [take(0, taken_back(3, 16))] * 256 + [way(3, 8), take(0, [1])])
-        self.assertEqual(answers(full), answers(full))
+        self.assertTrue(same(answers(full), answers(full)))
         self.assertEqual(answers(full)[-2:], [1, -1])
         self.assertEqual(answers(up + flat([take(0, [9])])), [1, 0] * 3 + [1, -3])
 
     def test_the_longest_list_of_calls(self):
         calls = flat([begin()] + [way(at % 32, at % 10 - 1) for at in range(4199)])
-        self.assertEqual(answers(calls), [1, 0] * 4200)
+        self.assertTrue(same(answers(calls), [1, 0] * 4200))
 
     def test_a_number_that_is_no_call(self):
         for call in (-1, 8, 99):
